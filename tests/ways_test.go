@@ -31,3 +31,25 @@ func TestWaysOfSectors(t *testing.T) {
 		t.Error("words are not put by a variadic function")
 	}
 }
+
+func TestWaysOfADisk(t *testing.T) {
+	deletes := func(n ast.Node) bool {
+		c, ok := n.(*ast.CallExpr)
+		if !ok {
+			return false
+		}
+		f, ok := c.Fun.(*ast.Ident)
+		return ok && f.Name == "delete"
+	}
+	byNumber := func(n ast.Node) bool {
+		m, ok := n.(*ast.MapType)
+		if !ok {
+			return false
+		}
+		k, ok := m.Key.(*ast.Ident)
+		return ok && k.Name == "int"
+	}
+	if !layerHas(t, "l02_mem.go", byNumber) || !layerHas(t, "l02_mem.go", deletes) {
+		t.Error("what is in the cache does not stand in a map by its number, from which what is flushed is deleted")
+	}
+}
