@@ -419,10 +419,31 @@ func TestFailMem(t *testing.T) {
 			t.Error("it turned", m)
 		}
 	}
+}
+
+// Whatever is wrong with a disk, it can fail: its sectors and what is Bad are
+// as they were, also where they are not as they should be.
+func TestFailMemOfWrongMems(t *testing.T) {
 	for name, m := range wrongMems() {
-		if x := impl.FailMem(m); !alike(x, m) {
+		want := plain(m)
+		want.Failed, want.Cache = true, nil
+		x := impl.FailMem(m)
+		if !alike(x, want) || !alike(impl.FailMem(x), want) {
 			t.Error(name, x)
 		}
+	}
+	for _, m := range []impl.Mem{
+		{},
+		{Secs: [][]int{{1}, {}}, Cache: []impl.Wr{{N: 2, S: []int{3}}}, Bad: []int{1}},
+		{Secs: [][]int{{65536}, {}}, Cache: []impl.Wr{{N: 1, S: []int{3}}}, Bad: []int{1, 0}},
+	} {
+		if x := impl.FailMem(m); !alike(x, impl.Mem{Secs: m.Secs, Failed: true, Bad: m.Bad}) {
+			t.Error(m, x)
+		}
+	}
+	// The Cache alone was wrong: without it, it is a right disk that failed.
+	if x := impl.FailMem(memOf(3, wrsOf(mostWrs+1, 3), 1)); !impl.MemOk(x) {
+		t.Error("the Cache is still counted", x)
 	}
 }
 
