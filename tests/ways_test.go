@@ -4,6 +4,8 @@ import (
 	"go/ast"
 	"go/parser"
 	"go/token"
+	"go/types"
+	"path/filepath"
 	"testing"
 )
 
@@ -51,5 +53,51 @@ func TestWaysOfADisk(t *testing.T) {
 	}
 	if !layerHas(t, "l02_mem.go", byNumber) || !layerHas(t, "l02_mem.go", deletes) {
 		t.Error("what is in the cache does not stand in a map by its number, from which what is flushed is deleted")
+	}
+}
+
+// typedLayer answers a layer's file, and of what type each part of it is. What
+// comes from the library is not looked at: its types are not asked for here.
+func typedLayer(t *testing.T, file string) (*ast.File, *types.Info) {
+	t.Helper()
+	names, err := filepath.Glob("../impl/*.go")
+	if err != nil {
+		t.Fatal(err)
+	}
+	fset, files := token.NewFileSet(), []*ast.File{}
+	var layer *ast.File
+	for _, name := range names {
+		f, err := parser.ParseFile(fset, name, nil, 0)
+		if err != nil {
+			t.Fatal(err)
+		}
+		files = append(files, f)
+		if filepath.Base(name) == file {
+			layer = f
+		}
+	}
+	if layer == nil {
+		t.Fatal("no such layer:", file)
+	}
+	info := &types.Info{Types: map[ast.Expr]types.TypeAndValue{}}
+	passOver := types.Config{Error: func(error) {}}
+	passOver.Check("impl", fset, files, info)
+	return layer, info
+}
+
+func TestWaysOfPlaces(t *testing.T) {
+	layer, info := typedLayer(t, "l03_geo.go")
+	found := false
+	ast.Inspect(layer, func(n ast.Node) bool {
+		if b, ok := n.(*ast.BinaryExpr); ok && (b.Op == token.EQL || b.Op == token.NEQ) {
+			if of := info.Types[b.X].Type; of != nil {
+				_, isStruct := of.Underlying().(*types.Struct)
+				found = found || isStruct
+			}
+		}
+		return true
+	})
+	if !found {
+		t.Error("places are not compared as structs")
 	}
 }
