@@ -101,3 +101,13 @@ func TestWaysOfPlaces(t *testing.T) {
 		t.Error("places are not compared as structs")
 	}
 }
+
+func TestWaysOfSupers(t *testing.T) {
+	array := func(n ast.Node) bool {
+		a, ok := n.(*ast.ArrayType)
+		return ok && a.Len != nil
+	}
+	if !layerHas(t, "l04_super.go", array) {
+		t.Error("what a disk knows does not stand in an array")
+	}
+}
