@@ -364,11 +364,7 @@ func TestFallOfALongCache(t *testing.T) {
 // The promise itself: whatever was done, behind a fall each sector is what it
 // was, or what was written to it since; and a flush leaves it nothing to lose.
 func TestSectorsBehindAFall(t *testing.T) {
-	x := uint32(7)
-	next := func(n int) int {
-		x = x*1664525 + 1013904223
-		return int(x>>8) % n
-	}
+	next := drawn(7)
 	for range 3000 {
 		secs := 1 + next(4)
 		m := memOf(secs, nil)

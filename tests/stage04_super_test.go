@@ -238,22 +238,8 @@ func TestSuperComesBackOfItsWords(t *testing.T) {
 // too few, too many, another first word, each other one out of its range.
 func brokenWords(s impl.Super) [][]int {
 	right := wantSuperWords(s)
-	l := [][]int{nil, {}, {0}, make([]int, len(right)), upTo(len(right)), slices.Concat(right, right)}
-	for n := range right {
-		l = append(l, right[:n:n], right[len(right)-n:])
-	}
-	for _, n := range []int{0, 1, firstOfASuper, 65535} {
-		l = append(l, append(slices.Clone(right), n), append([]int{n}, right...))
-	}
-	l = append(l, append(slices.Clone(right), 0, 0, 0), slices.Concat(right, make([]int, 100)))
-	changed := func(at int, numbers ...int) {
-		for _, n := range append(numbers, far()...) {
-			x := slices.Clone(right)
-			x[at] = n
-			l = append(l, x)
-		}
-	}
-	changed(0, 0, 1, 21316, 21318, 21322, 17747, -21317, 65535, firstOfASuper+65536)
+	l := append(otherLengths(right), make([]int, len(right)), upTo(len(right)))
+	l = append(l, changedAt(right, 0, 0, 1, 21316, 21318, 21322, 17747, -21317, 65535, firstOfASuper+65536)...)
 	for i, f := range superFields() {
 		wrong := f.wrong(s)
 		if f.name == "Lost" {
@@ -261,44 +247,26 @@ func brokenWords(s impl.Super) [][]int {
 				wrong[k]++
 			}
 		}
-		changed(i+1, wrong...)
+		l = append(l, changedAt(right, i+1, wrong...)...)
 	}
 	return l
 }
 
 func TestGetSuperOfWrongWords(t *testing.T) {
+	none := func(l []int) bool { return noSuper(impl.GetSuper(l)) }
 	for _, s := range cornerSupers() {
-		for _, l := range brokenWords(s) {
-			if x, ok := impl.GetSuper(l); !noSuper(x, ok) {
-				t.Error(l, x, ok)
-			}
-			if x, ok := impl.GetSuper(roomy(l)); !noSuper(x, ok) {
-				t.Error("what lies behind was read", l, x, ok)
-			}
-		}
-		// The missing words stand behind the length: they do not count.
-		whole := wantSuperWords(s)
-		for n := range whole {
-			if x, ok := impl.GetSuper(whole[:n]); !noSuper(x, ok) {
-				t.Error("cut", n, x, ok)
-			}
-		}
+		wantNone(t, brokenWords(s), wantSuperWords(s), none)
 	}
 	for name, s := range wrongSupers() {
-		if x, ok := impl.GetSuper(wantSuperWords(s)); !noSuper(x, ok) {
-			t.Error(name, x, ok)
+		if !none(wantSuperWords(s)) {
+			t.Error("read:", name)
 		}
 	}
 }
 
 // Whatever words are right, they are those of what they are read as.
 func TestWordsComeBackOfTheirSuper(t *testing.T) {
-	x := uint32(11)
-	next := func(n int) int {
-		x = x*1664525 + 1013904223
-		return int(x>>8) % n
-	}
-	read := 0
+	next, read := drawn(11), 0
 	for range 200000 {
 		l := []int{firstOfASuper + next(8)/7, next(60100), next(60100), next(5), 2 + next(5), next(10), next(60100), next(7), next(9) * next(2)}
 		s, ok := impl.GetSuper(l)

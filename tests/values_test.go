@@ -3,6 +3,7 @@ package tests
 import (
 	"fmt"
 	"reflect"
+	"slices"
 	"testing"
 )
 
@@ -123,6 +124,59 @@ func holdsApart(t *testing.T, name string, args []any, call func() []any) {
 	t.Helper()
 	for _, f := range notApart(args, call) {
 		t.Errorf("%s: %s", name, f)
+	}
+}
+
+// drawn answers a function that answers numbers below n, as they come, but the
+// same ones in each run.
+func drawn(seed uint32) func(n int) int {
+	return func(n int) int {
+		seed = seed*1664525 + 1013904223
+		return int(seed>>8) % n
+	}
+}
+
+// otherLengths answers lists that are none of right's length, made of it: cut
+// behind and ahead, with more behind and ahead.
+func otherLengths(right []int) [][]int {
+	l := [][]int{nil, {}, {0}, slices.Concat(right, right), slices.Concat(right, make([]int, 3)), slices.Concat(right, make([]int, 100))}
+	for n := range right {
+		l = append(l, right[:n:n], right[len(right)-n:])
+	}
+	for _, n := range []int{0, 1, right[0], 65535} {
+		l = append(l, slices.Concat(right, []int{n}), slices.Concat([]int{n}, right))
+	}
+	return l
+}
+
+// changedAt answers right with each of these numbers, and each that is far, at
+// this place.
+func changedAt(right []int, at int, numbers ...int) [][]int {
+	l := [][]int{}
+	for _, n := range append(numbers, far()...) {
+		x := slices.Clone(right)
+		x[at] = n
+		l = append(l, x)
+	}
+	return l
+}
+
+// wantNone asks that none of the lists is read, nor with junk behind it, nor
+// whole cut at any place, where what is missing stands behind the length.
+func wantNone(t *testing.T, lists [][]int, whole []int, none func(l []int) bool) {
+	t.Helper()
+	for _, l := range lists {
+		if !none(l) {
+			t.Error("read:", l)
+		}
+		if !none(roomy(l)) {
+			t.Error("what lies behind was read:", l)
+		}
+	}
+	for n := range whole {
+		if !none(whole[:n]) {
+			t.Error("read, cut at", n, "of", whole)
+		}
 	}
 }
 

@@ -111,3 +111,13 @@ func TestWaysOfSupers(t *testing.T) {
 		t.Error("what a disk knows does not stand in an array")
 	}
 }
+
+func TestWaysOfTheJournal(t *testing.T) {
+	threeIndexes := func(n ast.Node) bool {
+		s, ok := n.(*ast.SliceExpr)
+		return ok && s.Slice3
+	}
+	if !layerHas(t, "l05_rec.go", threeIndexes) {
+		t.Error("slots are not cut by three indexes")
+	}
+}
