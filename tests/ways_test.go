@@ -121,3 +121,27 @@ func TestWaysOfTheJournal(t *testing.T) {
 		t.Error("slots are not cut by three indexes")
 	}
 }
+
+// statesTold answers of a type switch how many types it tells from each other.
+func statesTold(n ast.Node) int {
+	s, ok := n.(*ast.TypeSwitchStmt)
+	if !ok {
+		return 0
+	}
+	told := 0
+	for _, c := range s.Body.List {
+		told += len(c.(*ast.CaseClause).List)
+	}
+	return told
+}
+
+func TestWaysOfAnArray(t *testing.T) {
+	faced := func(n ast.Node) bool {
+		i, ok := n.(*ast.InterfaceType)
+		return ok && len(i.Methods.List) > 0
+	}
+	told := func(n ast.Node) bool { return statesTold(n) > 1 }
+	if !layerHas(t, "l06_arr.go", faced) || !layerHas(t, "l06_arr.go", told) {
+		t.Error("a disk is not an interface with a type for each state, told by a type switch")
+	}
+}
