@@ -16,8 +16,12 @@ func layerHas(t *testing.T, file string, holds func(ast.Node) bool) bool {
 	if err != nil {
 		t.Fatal(err)
 	}
+	return anyPart(f, holds)
+}
+
+func anyPart(of ast.Node, holds func(ast.Node) bool) bool {
 	found := false
-	ast.Inspect(f, func(n ast.Node) bool {
+	ast.Inspect(of, func(n ast.Node) bool {
 		found = found || n != nil && holds(n)
 		return !found
 	})
@@ -34,15 +38,19 @@ func TestWaysOfSectors(t *testing.T) {
 	}
 }
 
-func TestWaysOfADisk(t *testing.T) {
-	deletes := func(n ast.Node) bool {
+// calls answers whether a part is a call of what has this name alone.
+func calls(name string) func(ast.Node) bool {
+	return func(n ast.Node) bool {
 		c, ok := n.(*ast.CallExpr)
 		if !ok {
 			return false
 		}
 		f, ok := c.Fun.(*ast.Ident)
-		return ok && f.Name == "delete"
+		return ok && f.Name == name
 	}
+}
+
+func TestWaysOfADisk(t *testing.T) {
 	byNumber := func(n ast.Node) bool {
 		m, ok := n.(*ast.MapType)
 		if !ok {
@@ -51,7 +59,7 @@ func TestWaysOfADisk(t *testing.T) {
 		k, ok := m.Key.(*ast.Ident)
 		return ok && k.Name == "int"
 	}
-	if !layerHas(t, "l02_mem.go", byNumber) || !layerHas(t, "l02_mem.go", deletes) {
+	if !layerHas(t, "l02_mem.go", byNumber) || !layerHas(t, "l02_mem.go", calls("delete")) {
 		t.Error("what is in the cache does not stand in a map by its number, from which what is flushed is deleted")
 	}
 }
@@ -87,17 +95,15 @@ func typedLayer(t *testing.T, file string) (*ast.File, *types.Info) {
 
 func TestWaysOfPlaces(t *testing.T) {
 	layer, info := typedLayer(t, "l03_geo.go")
-	found := false
-	ast.Inspect(layer, func(n ast.Node) bool {
-		if b, ok := n.(*ast.BinaryExpr); ok && (b.Op == token.EQL || b.Op == token.NEQ) {
-			if of := info.Types[b.X].Type; of != nil {
-				_, isStruct := of.Underlying().(*types.Struct)
-				found = found || isStruct
-			}
+	compared := func(n ast.Node) bool {
+		b, ok := n.(*ast.BinaryExpr)
+		if !ok || b.Op != token.EQL && b.Op != token.NEQ || info.Types[b.X].Type == nil {
+			return false
 		}
-		return true
-	})
-	if !found {
+		_, isStruct := info.Types[b.X].Type.Underlying().(*types.Struct)
+		return isStruct
+	}
+	if !anyPart(layer, compared) {
 		t.Error("places are not compared as structs")
 	}
 }
@@ -143,5 +149,31 @@ func TestWaysOfAnArray(t *testing.T) {
 	told := func(n ast.Node) bool { return statesTold(n) > 1 }
 	if !layerHas(t, "l06_arr.go", faced) || !layerHas(t, "l06_arr.go", told) {
 		t.Error("a disk is not an interface with a type for each state, told by a type switch")
+	}
+}
+
+func TestWaysOfWriting(t *testing.T) {
+	layer, info := typedLayer(t, "l07_write.go")
+	listOfClosures := func(n ast.Node) bool {
+		l, ok := n.(*ast.ArrayType)
+		if !ok || l.Len != nil || info.Types[l.Elt].Type == nil {
+			return false
+		}
+		_, isFunction := info.Types[l.Elt].Type.Underlying().(*types.Signature)
+		return isFunction
+	}
+	if !anyPart(layer, listOfClosures) {
+		t.Error("disk operations are not a list of closures")
+	}
+	catches := func(n ast.Node) bool {
+		d, ok := n.(*ast.DeferStmt)
+		if !ok {
+			return false
+		}
+		f, ok := d.Call.Fun.(*ast.FuncLit)
+		return ok && anyPart(f, calls("recover"))
+	}
+	if !anyPart(layer, calls("panic")) || !anyPart(layer, catches) {
+		t.Error("where the power goes it is not given up by a panic, which a deferred recover catches")
 	}
 }
