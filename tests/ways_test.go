@@ -177,3 +177,13 @@ func TestWaysOfWriting(t *testing.T) {
 		t.Error("where the power goes it is not given up by a panic, which a deferred recover catches")
 	}
 }
+
+func TestWaysOfMemory(t *testing.T) {
+	generic := func(n ast.Node) bool {
+		s, ok := n.(*ast.TypeSpec)
+		return ok && s.TypeParams != nil
+	}
+	if !layerHas(t, "l08_cache.go", generic) {
+		t.Error("stripes in order are not a generic type")
+	}
+}
