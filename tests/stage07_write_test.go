@@ -69,23 +69,34 @@ func stepsOfCheck(a impl.Arr) []step {
 	return slices.Concat(stepsOfSync(a), number(func(a *impl.Arr) { a.Tail = a.Seq }), stepsOfMark(a, a.Gen+1))
 }
 
-func stepsOfStripe(a impl.Arr, s int, data []int) []step {
+// stepsOfJournal has the record in its slot of each disk, and flushed.
+func stepsOfJournal(a impl.Arr, r impl.Rec) []step {
+	words := wantRecWords(r)
+	writes := stepsOfDisks(a, func(m int) step {
+		return stepOfWrite(m, firstSlot+r.Seq%impl.Slots, func(impl.Arr) []int { return words })
+	})
+	return append(writes, stepsOfSync(a)...)
+}
+
+func stepsOfWords(a impl.Arr, s int, data []int) []step {
 	l := []step{}
-	if a.Seq-a.Tail == impl.Slots {
-		l = stepsOfCheck(a)
-	}
-	rec := wantRecWords(impl.Rec{Seq: a.Seq, Stripe: s, Data: data})
-	l = append(l, stepsOfDisks(a, func(m int) step {
-		return stepOfWrite(m, firstSlot+a.Seq%impl.Slots, func(impl.Arr) []int { return rec })
-	})...)
-	l = append(l, stepsOfSync(a)...)
-	l = append(l, number(func(a *impl.Arr) { a.Seq++ })...)
 	for m, w := range wantHeld(a.G, s, data) {
 		if wantLive(a, m, s) {
 			l = append(l, stepOfWrite(m, firstStripe+s, func(impl.Arr) []int { return []int{w} }))
 		}
 	}
 	return l
+}
+
+func stepsOfSeq() []step { return number(func(a *impl.Arr) { a.Seq++ }) }
+
+func stepsOfStripe(a impl.Arr, s int, data []int) []step {
+	l := []step{}
+	if a.Seq-a.Tail == impl.Slots {
+		l = stepsOfCheck(a)
+	}
+	journal := stepsOfJournal(a, impl.Rec{Seq: a.Seq, Stripe: s, Data: data})
+	return slices.Concat(l, journal, stepsOfSeq(), stepsOfWords(a, s, data))
 }
 
 // wantHeld answers what each disk is to hold of a stripe that has these words.

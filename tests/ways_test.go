@@ -187,3 +187,41 @@ func TestWaysOfMemory(t *testing.T) {
 		t.Error("stripes in order are not a generic type")
 	}
 }
+
+// iterators answers the names of a file's functions that answer an iter.Seq.
+func iterators(f *ast.File) []string {
+	names := []string{}
+	for _, d := range f.Decls {
+		fun, ok := d.(*ast.FuncDecl)
+		if !ok || fun.Type.Results == nil {
+			continue
+		}
+		sequence := func(n ast.Node) bool {
+			s, ok := n.(*ast.SelectorExpr)
+			return ok && types.ExprString(s) == "iter.Seq"
+		}
+		if anyPart(fun.Type.Results, sequence) {
+			names = append(names, fun.Name.Name)
+		}
+	}
+	return names
+}
+
+func TestWaysOfTheFall(t *testing.T) {
+	layer, _ := typedLayer(t, "l09_fall.go")
+	ranged := func(n ast.Node) bool {
+		r, ok := n.(*ast.RangeStmt)
+		if !ok {
+			return false
+		}
+		for _, name := range iterators(layer) {
+			if calls(name)(r.X) {
+				return true
+			}
+		}
+		return false
+	}
+	if !anyPart(layer, ranged) {
+		t.Error("records do not come out of an iterator")
+	}
+}
