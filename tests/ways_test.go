@@ -225,3 +225,18 @@ func TestWaysOfTheFall(t *testing.T) {
 		t.Error("records do not come out of an iterator")
 	}
 }
+
+func TestWaysOfWholeStripes(t *testing.T) {
+	layer, info := typedLayer(t, "l10_scrub.go")
+	ranged := func(n ast.Node) bool {
+		r, ok := n.(*ast.RangeStmt)
+		if !ok || info.Types[r.X].Type == nil {
+			return false
+		}
+		b, ok := info.Types[r.X].Type.Underlying().(*types.Basic)
+		return ok && b.Info()&types.IsInteger != 0
+	}
+	if !anyPart(layer, ranged) {
+		t.Error("stripes are not a range over an integer")
+	}
+}
