@@ -87,7 +87,7 @@ func typedLayer(t *testing.T, file string) (*ast.File, *types.Info) {
 	if layer == nil {
 		t.Fatal("no such layer:", file)
 	}
-	info := &types.Info{Types: map[ast.Expr]types.TypeAndValue{}}
+	info := &types.Info{Types: map[ast.Expr]types.TypeAndValue{}, Selections: map[*ast.SelectorExpr]*types.Selection{}}
 	passOver := types.Config{Error: func(error) {}}
 	passOver.Check("impl", fset, files, info)
 	return layer, info
@@ -238,5 +238,20 @@ func TestWaysOfWholeStripes(t *testing.T) {
 	}
 	if !anyPart(layer, ranged) {
 		t.Error("stripes are not a range over an integer")
+	}
+}
+
+// A method is promoted where it is reached through a field that is embedded.
+func TestWaysOfADiskThatFails(t *testing.T) {
+	layer, info := typedLayer(t, "l11_fail.go")
+	promoted := func(n ast.Node) bool {
+		s, ok := n.(*ast.SelectorExpr)
+		if !ok || info.Selections[s] == nil {
+			return false
+		}
+		return info.Selections[s].Kind() == types.MethodVal && len(info.Selections[s].Index()) > 1
+	}
+	if !anyPart(layer, promoted) {
+		t.Error("a disk does not embed its store, whose methods are promoted")
 	}
 }
