@@ -255,3 +255,28 @@ func TestWaysOfADiskThatFails(t *testing.T) {
 		t.Error("a disk does not embed its store, whose methods are promoted")
 	}
 }
+
+// methodValues answers those of a part's selectors that name a method of what
+// they stand on, but do not call it.
+func methodValues(of ast.Node, info *types.Info) []string {
+	called, names := map[ast.Expr]bool{}, []string{}
+	ast.Inspect(of, func(n ast.Node) bool {
+		switch x := n.(type) {
+		case *ast.CallExpr:
+			called[ast.Unparen(x.Fun)] = true
+		case *ast.SelectorExpr:
+			if s := info.Selections[x]; s != nil && s.Kind() == types.MethodVal && !called[x] {
+				names = append(names, x.Sel.Name)
+			}
+		}
+		return true
+	})
+	return names
+}
+
+func TestWaysOfBuilding(t *testing.T) {
+	layer, info := typedLayer(t, "l12_build.go")
+	if names := methodValues(layer, info); len(names) < 3 {
+		t.Error("a step is not a method value:", names)
+	}
+}
