@@ -280,3 +280,31 @@ func TestWaysOfBuilding(t *testing.T) {
 		t.Error("a step is not a method value:", names)
 	}
 }
+
+func TestWaysOfCommands(t *testing.T) {
+	branches := func(n ast.Node) bool {
+		b, ok := n.(*ast.BranchStmt)
+		return ok && b.Tok == token.FALLTHROUGH
+	}
+	if !layerHas(t, "l13_cmd.go", branches) {
+		t.Error("a command without its room does not fall through to the next look")
+	}
+	counted := func(n ast.Node) bool {
+		d, ok := n.(*ast.GenDecl)
+		if !ok || d.Tok != token.CONST {
+			return false
+		}
+		return anyPart(d, named("OpRead")) && anyPart(d, named("iota")) && anyPart(d, named("OpZero"))
+	}
+	if !layerHas(t, "l13_cmd.go", counted) {
+		t.Error("kinds of commands are not constants with iota")
+	}
+}
+
+// named answers whether a part is this name.
+func named(name string) func(ast.Node) bool {
+	return func(n ast.Node) bool {
+		i, ok := n.(*ast.Ident)
+		return ok && i.Name == name
+	}
+}
