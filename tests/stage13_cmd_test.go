@@ -383,32 +383,36 @@ func TestCmdCodeOfFewBlocks(t *testing.T) {
 	}
 }
 
+// otherwiseUnnamed answers the command with other things in the fields that its
+// Op does not name.
+func otherwiseUnnamed(c impl.Cmd) []impl.Cmd {
+	l := []impl.Cmd{}
+	for _, n := range append([]int{-1, 0, 1, impl.MaxRun, impl.MaxRun + 1, 65535, 65536}, far()...) {
+		x := c
+		if !hasN(c.Op) {
+			x.N = n
+		}
+		if c.Op == impl.OpFlush {
+			x.Lba = n
+		}
+		l = append(l, x)
+	}
+	for _, vals := range [][]int{nil, {}, {1}, {-1}, {65536, 2}, make([]int, impl.MaxRun), make([]int, impl.MaxRun+1), make([]int, impl.MaxSec+1), make([]int, 300)} {
+		x := c
+		if !hasVals(c.Op) {
+			x.Vals = vals
+		}
+		l = append(l, x)
+	}
+	return l
+}
+
 // What an Op does not name is not looked at: whatever stands there, the code,
 // the span and what it clashes with are the same.
 func TestWhatAnOpDoesNotName(t *testing.T) {
-	numbers := append([]int{-1, 0, 1, impl.MaxRun, impl.MaxRun + 1, 65535, 65536}, far()...)
-	lists := [][]int{nil, {}, {1}, {-1}, {65536, 2}, make([]int, impl.MaxRun), make([]int, impl.MaxRun+1), make([]int, impl.MaxSec+1), make([]int, 300)}
 	for _, g := range geosOfCmds() {
 		for _, c := range append(rightCmds(g), cmdsAlmostRight(g)...) {
-			others := []impl.Cmd{}
-			for _, n := range numbers {
-				x := c
-				if !hasN(c.Op) {
-					x.N = n
-				}
-				if c.Op == impl.OpFlush {
-					x.Lba = n
-				}
-				others = append(others, x)
-			}
-			for _, vals := range lists {
-				x := c
-				if !hasVals(c.Op) {
-					x.Vals = vals
-				}
-				others = append(others, x)
-			}
-			for _, x := range others {
+			for _, x := range otherwiseUnnamed(c) {
 				wantAsPlain(t, g, c, x)
 			}
 		}

@@ -301,6 +301,32 @@ func TestWaysOfCommands(t *testing.T) {
 	}
 }
 
+// A method is reached as an expression where it is named of its type: what it
+// is of is the first argument then.
+func TestWaysOfTheModel(t *testing.T) {
+	layer, info := typedLayer(t, "l14_model.go")
+	expression := func(n ast.Node) bool {
+		s, ok := n.(*ast.SelectorExpr)
+		return ok && info.Selections[s] != nil && info.Selections[s].Kind() == types.MethodExpr
+	}
+	table := func(n ast.Node) bool {
+		l, ok := n.(*ast.CompositeLit)
+		if !ok {
+			return false
+		}
+		rows := 0
+		for _, e := range l.Elts {
+			if anyPart(e, expression) {
+				rows++
+			}
+		}
+		return rows > 1
+	}
+	if !anyPart(layer, table) {
+		t.Error("what a kind does is not a method expression in a table")
+	}
+}
+
 // named answers whether a part is this name.
 func named(name string) func(ast.Node) bool {
 	return func(n ast.Node) bool {
