@@ -327,6 +327,25 @@ func TestWaysOfTheModel(t *testing.T) {
 	}
 }
 
+// Jobs are reached by pointers where a function answers where they stand.
+func TestWaysOfAnEngine(t *testing.T) {
+	pointer := func(n ast.Node) bool {
+		s, ok := n.(*ast.StarExpr)
+		return ok && named("Job")(s.X)
+	}
+	answers := func(n ast.Node) bool {
+		f, ok := n.(*ast.FuncType)
+		return ok && f.Results != nil && anyPart(f.Results, pointer)
+	}
+	stands := func(n ast.Node) bool {
+		u, ok := n.(*ast.UnaryExpr)
+		return ok && u.Op == token.AND
+	}
+	if !layerHas(t, "l15_eng.go", answers) || !layerHas(t, "l15_eng.go", stands) {
+		t.Error("what is worked on is not reached by pointers")
+	}
+}
+
 // named answers whether a part is this name.
 func named(name string) func(ast.Node) bool {
 	return func(n ast.Node) bool {
