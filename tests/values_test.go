@@ -108,13 +108,16 @@ func notApart(args []any, call func() []any) []string {
 		}
 	}
 	for _, a := range answers {
+		shared := 0
 		for _, s := range spansOf(reflect.ValueOf(a), reflect.Value.Len) {
-			for _, h := range held {
-				if s.from < h.to && h.from < s.to {
-					faults = append(faults, fmt.Sprintf("memory of %v is shared", a))
-				}
+			if slices.ContainsFunc(held, func(h span) bool { return s.from < h.to && h.from < s.to }) {
+				shared++
 			}
 			held = append(held, s)
+		}
+		// Told once: a great answer may share hundreds of lists.
+		if shared > 0 {
+			faults = append(faults, fmt.Sprintf("memory of %v is shared, in %d lists", a, shared))
 		}
 	}
 	return faults
