@@ -346,6 +346,41 @@ func TestWaysOfAnEngine(t *testing.T) {
 	}
 }
 
+// A function value is answered by one function, and called by another one.
+func TestWaysOfWorking(t *testing.T) {
+	layer, info := typedLayer(t, "l16_work.go")
+	isFunction := func(e ast.Expr) bool {
+		if info.Types[e].Type == nil {
+			return false
+		}
+		_, ok := info.Types[e].Type.Underlying().(*types.Signature)
+		return ok
+	}
+	answered := func(n ast.Node) bool {
+		f, ok := n.(*ast.FuncDecl)
+		if !ok || f.Type.Results == nil {
+			return false
+		}
+		for _, r := range f.Type.Results.List {
+			if isFunction(r.Type) {
+				return true
+			}
+		}
+		return false
+	}
+	called := func(n ast.Node) bool {
+		c, ok := n.(*ast.CallExpr)
+		if !ok {
+			return false
+		}
+		_, atOnce := c.Fun.(*ast.CallExpr)
+		return isFunction(c.Fun) && (atOnce || info.Types[c.Fun].Addressable())
+	}
+	if !anyPart(layer, answered) || !anyPart(layer, called) {
+		t.Error("a job's next part is not a function value")
+	}
+}
+
 // named answers whether a part is this name.
 func named(name string) func(ast.Node) bool {
 	return func(n ast.Node) bool {
