@@ -381,6 +381,35 @@ func TestWaysOfWorking(t *testing.T) {
 	}
 }
 
+// What is refused is an error of a type of this layer, and where one is asked
+// for, errors.As is handed a place of that type.
+func TestWaysOfWhatMayCome(t *testing.T) {
+	layer, info := typedLayer(t, "l17_event.go")
+	own := func(e ast.Expr) bool {
+		at, ok := info.Types[e].Type.(*types.Pointer)
+		if !ok {
+			return false
+		}
+		of, ok := at.Elem().(*types.Named)
+		return ok && layer.Pos() <= of.Obj().Pos() && of.Obj().Pos() < layer.End() && types.Implements(of, errorType())
+	}
+	asked := func(n ast.Node) bool {
+		c, ok := n.(*ast.CallExpr)
+		if !ok || len(c.Args) != 2 {
+			return false
+		}
+		s, ok := c.Fun.(*ast.SelectorExpr)
+		return ok && s.Sel.Name == "As" && named("errors")(s.X) && own(c.Args[1])
+	}
+	if !anyPart(layer, asked) {
+		t.Error("what is refused is not an error of a type of its own, asked for by errors.As")
+	}
+}
+
+func errorType() *types.Interface {
+	return types.Universe.Lookup("error").Type().Underlying().(*types.Interface)
+}
+
 // named answers whether a part is this name.
 func named(name string) func(ast.Node) bool {
 	return func(n ast.Node) bool {
